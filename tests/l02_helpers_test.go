@@ -2,6 +2,7 @@ package tests
 
 import (
 	"fmt"
+	"slices"
 	"strconv"
 	"strings"
 	"testing"
@@ -279,5 +280,19 @@ func sameGrammar(t *testing.T, name string, g impl.Grammar, code int64, want imp
 	t.Helper()
 	if got := textOf(g); code != impl.OK || got != textOf(want) {
 		t.Errorf("%s: got %.300q and the code %d, want %.300q", name, got, code, textOf(want))
+	}
+}
+
+// withSpare returns the rules of a grammar with further ones behind them, and unused memory.
+func withSpare(g impl.Grammar) []impl.Rule {
+	spare := impl.Rule{Letter: "spare", Left: -7, Right: -8}
+	return append(append(make([]impl.Rule, 0, len(g.Rules)+900), g.Rules...), spare, spare, spare)
+}
+
+// hasSpare checks that what withSpare has returned for a grammar is still the same.
+func hasSpare(t *testing.T, name string, given []impl.Rule, g impl.Grammar) {
+	t.Helper()
+	if !slices.Equal(given[:cap(given)], withSpare(g)[:cap(given)]) {
+		t.Errorf("%s has changed a grammar", name)
 	}
 }

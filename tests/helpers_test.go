@@ -5,6 +5,7 @@ import (
 	"math"
 	"strings"
 	"testing"
+	"time"
 
 	"loop.example/g01133/impl"
 )
@@ -21,6 +22,20 @@ func is(t *testing.T, name, want string, results ...any) {
 	if got := strings.TrimSuffix(fmt.Sprintln(results...), "\n"); got != want {
 		t.Errorf("%s: got %s, want %s", name, got, want)
 	}
+}
+
+// inSeconds makes a call of a function, which has to return within a few seconds, with zero results beside an error.
+func inSeconds(t *testing.T, name string, call func() []any) []any {
+	t.Helper()
+	start := time.Now()
+	results := call()
+	if passed := time.Since(start); passed > 5*time.Second {
+		t.Errorf("%s has taken %v", name, passed)
+	}
+	if code := codeOf(results); code != impl.OK {
+		failsWith(t, name, results, code)
+	}
+	return results
 }
 
 // wordsUpTo returns all words of some letters that have at most so many of them.

@@ -101,14 +101,7 @@ func TestPromise1EqualityReturns(t *testing.T) {
 				}
 				h := grammars[(k*5+n)%len(grammars)]
 				x := equalityArgs{g, h, i, numbers[(n*3+k)%len(numbers)], numbers[(n*7+k)%len(numbers)], lists[(n+k)%len(lists)]}
-				start := time.Now()
-				results := f.call(x)
-				if passed := time.Since(start); passed > 5*time.Second {
-					t.Errorf("%s has taken %v", f.name, passed)
-				}
-				if code := codeOf(results); code != impl.OK {
-					failsWith(t, f.name, results, code)
-				}
+				inSeconds(t, f.name, func() []any { return f.call(x) })
 			}
 		}
 	}

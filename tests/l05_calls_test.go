@@ -5,7 +5,6 @@ import (
 	"slices"
 	"strings"
 	"testing"
-	"time"
 
 	"loop.example/g01133/impl"
 )
@@ -57,15 +56,7 @@ func countCalls() []countCall {
 // within calls a function, which has to return within a few seconds, with zero results beside an error.
 func within(t *testing.T, f countCall, x countArgs) []any {
 	t.Helper()
-	start := time.Now()
-	results := f.call(x)
-	if passed := time.Since(start); passed > 5*time.Second {
-		t.Errorf("%s has taken %v", f.name, passed)
-	}
-	if code := codeOf(results); code != impl.OK {
-		failsWith(t, f.name, results, code)
-	}
-	return results
+	return inSeconds(t, f.name, func() []any { return f.call(x) })
 }
 
 // TestPromise1CountsReturn gives every function arguments of all kinds, each call within a few seconds.

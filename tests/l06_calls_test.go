@@ -5,7 +5,6 @@ import (
 	"slices"
 	"strings"
 	"testing"
-	"time"
 
 	"loop.example/g01133/impl"
 )
@@ -58,15 +57,7 @@ func allMakerCalls() []makerCall {
 // inTime calls a function, which has to return within a few seconds, with zero results beside an error.
 func inTime(t *testing.T, f makerCall, x makerArgs) []any {
 	t.Helper()
-	start := time.Now()
-	results := f.call(x)
-	if passed := time.Since(start); passed > 5*time.Second {
-		t.Errorf("%s has taken %v", f.name, passed)
-	}
-	if code := codeOf(results); code != impl.OK {
-		failsWith(t, f.name, results, code)
-	}
-	return results
+	return inSeconds(t, f.name, func() []any { return f.call(x) })
 }
 
 // manyFactors returns valid lists of factors of MaxFactors factors, or of long words.

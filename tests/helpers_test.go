@@ -3,6 +3,8 @@ package tests
 import (
 	"fmt"
 	"math"
+	"os"
+	"runtime/debug"
 	"strings"
 	"testing"
 	"time"
@@ -15,6 +17,12 @@ const (
 	least    = math.MinInt64
 	greatest = math.MaxInt64
 )
+
+// TestMain lets more garbage gather than is usual, because most of what the tests use is garbage soon.
+func TestMain(m *testing.M) {
+	debug.SetGCPercent(400)
+	os.Exit(m.Run())
+}
 
 // is holds the results of a call, printed one behind the other, against what they should be.
 func is(t *testing.T, name, want string, results ...any) {

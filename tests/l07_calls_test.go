@@ -170,6 +170,17 @@ func rangesOf(values ...any) []memoryRange {
 			for _, e := range v {
 				ranges = append(ranges, rangeOf(e.Part.Rules))
 			}
+		case []impl.Deed:
+			ranges = append(ranges, rangeOf(v))
+		case []int64:
+			ranges = append(ranges, rangeOf(v))
+		case impl.Depot:
+			ranges = append(ranges, rangeOf(v.Words))
+			for _, g := range v.Words {
+				ranges = append(ranges, rangeOf(g.Rules))
+			}
+		case impl.Store:
+			ranges = append(ranges, rangesOfStore(v)...)
 		}
 	}
 	return slices.DeleteFunc(ranges, func(r memoryRange) bool { return r.from == r.to })
@@ -178,8 +189,12 @@ func rangesOf(values ...any) []memoryRange {
 // sharesNone checks that results share memory neither with arguments nor with each other.
 func sharesNone(t *testing.T, name string, results []any, x editArgs) {
 	t.Helper()
-	made := rangesOf(results...)
-	given := rangesOf(x.g, x.h, x.e, x.f, x.list)
+	sharesWithNone(t, name, rangesOf(results...), rangesOf(x.g, x.h, x.e, x.f, x.list))
+}
+
+// sharesWithNone checks that the memory of results is neither given nor that of other ones.
+func sharesWithNone(t *testing.T, name string, made, given []memoryRange) {
+	t.Helper()
 	for k, one := range made {
 		for _, other := range slices.Concat(made[:k], given) {
 			if one.from < other.to && other.from < one.to {

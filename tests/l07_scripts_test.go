@@ -53,18 +53,23 @@ func answersBy(g impl.Grammar, lines []string) string {
 	return answers
 }
 
-// answers checks what RunScript answers to lines, with and without a newline at the end.
+// scriptTexts returns the texts that have these lines: with and without a newline at the end.
+func scriptTexts(lines []string) []string {
+	text := strings.Join(lines, "\n")
+	switch {
+	case len(lines) == 0:
+		return []string{text}
+	case lines[len(lines)-1] == "":
+		// Without a newline at the end, the last line would not be one.
+		return []string{text + "\n"}
+	}
+	return []string{text, text + "\n"}
+}
+
+// answers checks what RunScript answers to lines.
 func answers(t *testing.T, g impl.Grammar, lines []string, want string) {
 	t.Helper()
-	text := strings.Join(lines, "\n")
-	texts := []string{text, text + "\n"}
-	if len(lines) == 0 {
-		texts = texts[:1]
-	} else if lines[len(lines)-1] == "" {
-		// Without a newline at the end, the last line would not be one.
-		texts = texts[1:]
-	}
-	for _, text := range texts {
+	for _, text := range scriptTexts(lines) {
 		got, code := impl.RunScript(g, text)
 		if code != impl.OK || got != want {
 			t.Errorf("RunScript of %.900q: got %.900q and the code %d, want %.900q", text, got, code, want)
@@ -198,27 +203,43 @@ func TestPromise18MaxEdits(t *testing.T) {
 	answers(t, g, lines, want)
 }
 
-func TestPromise18ScriptLimits(t *testing.T) {
-	g := gram(example)
-	for _, c := range []struct {
-		text string
-		code int64
-	}{
+// limitScript is a text that is just at the limits of scripts, or beyond one of them.
+type limitScript struct {
+	text string
+	code int64
+}
+
+// limitScripts returns texts with so many bytes and lines as there may be, and more, a line being repeated in some of them.
+func limitScripts(line string) []limitScript {
+	return []limitScript{
 		{strings.Repeat("\n", impl.MaxScriptLines), impl.OK}, {strings.Repeat("\n", impl.MaxScriptLines+1), impl.ErrRange}, {strings.Repeat("\n", impl.MaxScriptLines) + "a", impl.ErrRange}, {strings.Repeat("\n", impl.MaxScriptLines-1) + "a", impl.OK},
-		{strings.Repeat("word\n", impl.MaxScriptLines), impl.OK}, {strings.Repeat("word\n", impl.MaxScriptLines) + "word", impl.ErrRange}, {strings.Repeat("word\n", impl.MaxScriptLines-1) + "word", impl.OK},
+		{strings.Repeat(line+"\n", impl.MaxScriptLines), impl.OK}, {strings.Repeat(line+"\n", impl.MaxScriptLines) + line, impl.ErrRange}, {strings.Repeat(line+"\n", impl.MaxScriptLines-1) + line, impl.OK},
 		{strings.Repeat("a", impl.MaxScriptText), impl.OK}, {strings.Repeat("a", impl.MaxScriptText+1), impl.ErrRange}, {strings.Repeat("a", impl.MaxScriptText-1) + "\n", impl.OK}, {strings.Repeat("a", impl.MaxScriptText) + "\n", impl.ErrRange}, {strings.Repeat("a", 1000000), impl.ErrRange}, {strings.Repeat("\n", 1000000), impl.ErrRange},
 		{strings.Repeat(strings.Repeat("x", 165)+"\n", 120) + strings.Repeat("x", 80), impl.ErrRange}, {strings.Repeat(strings.Repeat("x", 167)+"\n", 119) + strings.Repeat("x", 8), impl.OK}, {strings.Repeat(strings.Repeat("x", 167)+"\n", 119) + strings.Repeat("x", 9), impl.ErrRange},
 		{strings.Repeat("ä", impl.MaxScriptText/2), impl.OK}, {strings.Repeat("ä", impl.MaxScriptText/2) + "a", impl.ErrRange}, {strings.Repeat("\xff", impl.MaxScriptText), impl.OK},
-	} {
-		said, code := impl.RunScript(g, c.text)
+	}
+}
+
+// keepsLimits checks what a function answers to texts that are at the limits of scripts, and to longer ones.
+func keepsLimits(t *testing.T, name, line string, run func(text string) (string, int64), answersBy func(lines []string) string) {
+	t.Helper()
+	for _, c := range limitScripts(line) {
+		said, code := run(c.text)
+		one := fmt.Sprintf("%s of %d bytes, %.20q", name, len(c.text), c.text)
 		if c.code != impl.OK {
-			failsWith(t, fmt.Sprintf("RunScript of %d bytes, %.20q", len(c.text), c.text), list(said, code), c.code)
+			failsWith(t, one, list(said, code), c.code)
 			continue
 		}
 		lines := strings.Split(strings.TrimSuffix(c.text, "\n"), "\n")
-		is(t, fmt.Sprintf("RunScript of %d bytes, %.20q", len(c.text), c.text), answersBy(g, lines)+" 0", said, code)
+		is(t, one, answersBy(lines)+" 0", said, code)
 		is(t, "the number of answers", fmt.Sprint(len(lines)), strings.Count(said, "\n"))
 	}
+}
+
+func TestPromise18ScriptLimits(t *testing.T) {
+	g := gram(example)
+	run := func(text string) (string, int64) { return impl.RunScript(g, text) }
+	keepsLimits(t, "RunScript", "word", run, func(lines []string) string { return answersBy(g, lines) })
 	for _, bad := range invalidGrammars() {
 		for _, text := range []string{"", "word", strings.Repeat("a", impl.MaxScriptText+1), strings.Repeat("\n", impl.MaxScriptLines+1)} {
 			failsWith(t, "RunScript of an invalid grammar", list(impl.RunScript(bad, text)), impl.ErrInvalid)
